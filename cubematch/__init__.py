@@ -1,0 +1,1 @@
+"""Backgammon, a match with the doubling cube."""

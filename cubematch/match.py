@@ -1,0 +1,43 @@
+"""The calls on one match as a list of numbers, and their answers as another."""
+
+from cubematch.calls import call_begin, call_double, call_drop, call_open, call_take, call_throw
+from cubematch.state import State
+
+BEGIN = 1
+OPEN = 2
+THROW = 3
+DOUBLE = 4
+TAKE = 5
+
+# How many numbers stand behind each call's own.
+NUMBERS_BEHIND = {1: 1, 2: 2, 3: 2, 4: 0, 5: 0, 6: 0}
+
+
+def answer_to(state, call, numbers):
+    """What one call answers, as a list of numbers."""
+    if call == BEGIN:
+        return call_begin(state, numbers[0])
+    if call == OPEN:
+        return call_open(state, numbers[0], numbers[1])
+    if call == THROW:
+        return call_throw(state, numbers[0], numbers[1])
+    if call == DOUBLE:
+        return call_double(state)
+    if call == TAKE:
+        return call_take(state)
+    # No other call but drop, 6, is left.
+    return call_drop(state)
+
+
+def answers(calls):
+    """The answers to the calls, each behind the count of its numbers."""
+    state = State()
+    told = []
+    at = 0
+    while at < len(calls):
+        behind = at + 1 + NUMBERS_BEHIND[calls[at]]
+        answer = answer_to(state, calls[at], calls[at + 1:behind])
+        told.append(len(answer))
+        told.extend(answer)
+        at = behind
+    return told
