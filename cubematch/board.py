@@ -8,6 +8,7 @@ that player sees them. A board that was handed in is never changed.
 OFF = 0
 BAR = 25
 LAST_HOME_POINT = 6
+CHECKERS = 15
 
 BEGINNING = ((24, 2), (13, 5), (8, 3), (6, 5))
 
@@ -28,6 +29,11 @@ def new_board():
 def others_place(point):
     """The place by which the other player knows a point."""
     return 25 - point
+
+
+def pips(side):
+    """Each checker's place, added; off is 0."""
+    return sum([place * checkers for place, checkers in enumerate(side)])
 
 
 def has_none_beyond(side, place):
@@ -91,3 +97,19 @@ def most_usable(board, player, dice):
             rest = dice[:index] + dice[index + 1:]
             most = max(most, most_with_first(board, player, die, rest))
     return most
+
+
+def has_won(board, player):
+    """Whether the player has all checkers off."""
+    return board[player][OFF] == CHECKERS
+
+
+def times_won(board, winner):
+    """How many times the cube a game is worth to the one who has all checkers off."""
+    loser_side = board[1 - winner]
+    if loser_side[OFF] > 0:
+        return 1
+    # The winner's points 1 to 6 are the loser's furthest: the bar is one further still.
+    if has_none_beyond(loser_side, others_place(LAST_HOME_POINT + 1)):
+        return 2
+    return 3

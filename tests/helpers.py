@@ -1,6 +1,6 @@
-"""What several test files need: states that the six calls alone don't reach, and their picture."""
+"""What several test files need: states as they are wished for, their picture, refusals."""
 
-from cubematch.calls import call_begin, call_open
+from cubematch.calls import call_begin, call_open, call_throw
 from cubematch.state import DOUBLED, OPENING, STEPS, TURN, State
 
 LOWEST = -2147483648
@@ -49,6 +49,21 @@ def state_at_turn(player=0, goal=5, points=(0, 0)):
     return state
 
 
+def state_on_board(mine, others, player=0, goal=25):
+    """The player is to throw on this board, of which both sides are told as dicts."""
+    state = state_at_turn(player, goal)
+    sides = (mine, others) if player == 0 else (others, mine)
+    state.game.board = board_of(*sides)
+    return state
+
+
+def state_thrown(mine, others, one, other, player=0):
+    """The player has thrown these dice on this board."""
+    state = state_on_board(mine, others, player)
+    call_throw(state, one, other)
+    return state
+
+
 def state_doubled(player=0, goal=5, points=(0, 0)):
     """The player has doubled."""
     state = state_at_turn(player, goal, points)
@@ -71,6 +86,11 @@ def states_in_other_phases(phase):
         STEPS: state_in_steps(),
     }
     return [state for key, state in made.items() if key != phase]
+
+
+def pairs_closed(*points):
+    """The other's side that closes these points of one's own."""
+    return {25 - point: 2 for point in points}
 
 
 def picture(state):

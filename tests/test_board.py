@@ -1,11 +1,12 @@
 """Places, steps that may be made by themselves, and how many dice can be used."""
 
-import itertools
 import random
 import unittest
 
-from cubematch.board import board_behind, may_step, most_usable, new_board
-from helpers import board_of
+from cubematch.board import (board_behind, has_won, may_step, most_usable, new_board, pips,
+                             times_won)
+from helpers import board_of, pairs_closed, side_of
+from reference import random_board, reference_most
 
 
 class BeginningTest(unittest.TestCase):
@@ -99,11 +100,6 @@ class BoardBehindTest(unittest.TestCase):
         self.assertEqual(board_behind(board, 0, 3, 6), board_of({3: 1}, {25: 1, 4: 1}))
 
 
-def pairs_closed(*points):
-    """The other's side that closes these points of one's own."""
-    return {25 - point: 2 for point in points}
-
-
 class MostUsableTest(unittest.TestCase):
     def expect(self, most, mine, others, *dice):
         for player, board in ((0, board_of(mine, others)), (1, board_of(others, mine))):
@@ -166,56 +162,44 @@ class MostUsableTest(unittest.TestCase):
         self.expect(2, {10: 1}, {25 - 4: 1}, 6, 1)
 
 
-def reference_steps(board, player, die):
-    """The boards behind one step, told by the document's words once more."""
-    mine, others = board[player], board[1 - player]
-    for place in range(1, 26):
-        if not mine[place] or (mine[25] and place != 25):
-            continue
-        if die < place:
-            if others[25 - (place - die)] >= 2:
-                continue
-        elif any(mine[7:]) or (die != place and any(mine[place + 1:])):
-            continue
-        new_mine, new_others = list(mine), list(others)
-        new_mine[place] -= 1
-        new_mine[max(0, place - die)] += 1
-        if die < place and others[25 - (place - die)]:
-            new_others[25 - (place - die)] -= 1
-            new_others[25] += 1
-        yield [new_mine, new_others] if player == 0 else [new_others, new_mine]
+class PipsTest(unittest.TestCase):
+    def test_each_checkers_place_added(self):
+        self.assertEqual(pips(new_board()[0]), 167)
+        self.assertEqual(pips(side_of({25: 2, 1: 3})), 53)
+        self.assertEqual(pips(side_of({})), 0)
 
 
-def reference_most(board, player, dice):
-    """Each order of the dice, with all boards that it leads to."""
-    most = 0
-    for order in set(itertools.permutations(dice)):
-        boards = [board]
-        for used, die in enumerate(order):
-            behind = {}
-            for one in boards:
-                for new in reference_steps(one, player, die):
-                    behind[str(new)] = new
-            if not behind:
-                break
-            boards = list(behind.values())
-            most = max(most, used + 1)
-    return most
+class WonTest(unittest.TestCase):
+    def test_all_checkers_must_be_off(self):
+        for player in (0, 1):
+            board = [side_of({6: 15}), side_of({6: 15})]
+            self.assertFalse(has_won(board, player))
+            board[player] = side_of({1: 1})
+            self.assertFalse(has_won(board, player))
+            board[player] = side_of({})
+            self.assertTrue(has_won(board, player))
+            self.assertFalse(has_won(board, 1 - player))
 
+    def expect_times(self, times, loser_places):
+        for winner in (0, 1):
+            board = [side_of({}), side_of({})]
+            board[1 - winner] = side_of(loser_places)
+            self.assertEqual(times_won(board, winner), times, (winner, loser_places))
 
-def random_board(chance):
-    """Fifteen checkers each, no point with checkers of both."""
-    owners = [chance.choice((0, 0, 1)) for point in range(26)]
-    low = chance.choice((6, 12, 24))
-    sides = [[0] * 26, [0] * 26]
-    own = [point for point in range(1, low + 1) if owners[point] == 0]
-    theirs = [25 - point for point in range(1, 25) if owners[point] == 1]
-    for side, places in ((sides[0], own), (sides[1], theirs)):
-        few = chance.sample(places, min(len(places), chance.randint(1, 7)))
-        for checker in range(15):
-            bar = [25] if chance.random() < 0.3 else []
-            side[chance.choice(few + [0] + bar) if few else 0] += 1
-    return sides
+    def test_once_if_the_other_has_some_off(self):
+        self.expect_times(1, {6: 14})
+        self.expect_times(1, {1: 1})
+        self.expect_times(1, {25: 1, 24: 1, 6: 12})
+
+    def test_twice_if_the_other_has_none_off(self):
+        self.expect_times(2, {6: 15})
+        self.expect_times(2, {18: 1, 1: 14})
+        self.expect_times(2, {18: 15})
+
+    def test_three_times_if_besides_one_is_on_the_bar_or_in_the_winners_home(self):
+        for place in (19, 20, 21, 22, 23, 24, 25):
+            self.expect_times(3, {place: 1, 6: 14})
+        self.expect_times(3, {25: 15})
 
 
 class AgainstTheWordsTest(unittest.TestCase):

@@ -1,4 +1,4 @@
-"""Each call by itself, also in the states that the six calls alone don't reach."""
+"""The calls begin, open, throw, double, take and drop, each by itself, and the match they make."""
 
 import unittest
 
